@@ -1,0 +1,1 @@
+"""Steadhold: pages, slices, blocks and packets shared out to libraries nobody trusts."""

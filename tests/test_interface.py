@@ -1,0 +1,65 @@
+"""The interface: each name is defined in the file, and each method in the class, under which it is listed."""
+
+import ast
+import importlib
+import unittest
+
+import language
+
+# For each file its functions, its plain values, and its classes with their methods; a number tells the arguments.
+INTERFACE = {
+    "errors": {"SteadError": {}, "NotValid": {}},
+    "slices": {
+        "SLOTS": None, "UNITS": None, "ENVIRONMENTS": None,
+        "Slices": {"__init__": 1, "running": 0, "place": 0, "pass_unit": 0, "give_up": 0, "hand_on": 1},
+    },
+    "frames": {
+        "WORDS": None, "TOP": None, "PATIENCE": None, "is_word": 1,
+        "Frames": {
+            "__init__": 2, "take": 1, "offer": 4, "accept": 3, "drop": 2, "narrow": 2, "right": 2, "holdings": 1,
+            "charge": 1, "share": 1, "left": 0, "free": 0, "read": 2, "write": 3, "ask_back": 2, "asked": 1,
+            "slot_ended": 1, "taken": 1,
+        },
+    },
+    "pages": {
+        "PAGES": None,
+        "Pages": {
+            "__init__": 1, "map": 4, "unmap": 2, "entry": 2, "load": 3, "store": 4, "ended": 2, "narrowed": 2,
+        },
+    },
+}
+
+
+def many_arguments(function):
+    args = function.args
+    assert not (args.vararg or args.kwarg or args.kwonlyargs or args.posonlyargs)
+    return len(args.args)
+
+
+class Interface(unittest.TestCase):
+    def test_files(self):
+        for name, listed in INTERFACE.items():
+            tree = language.tree_of(language.PACKAGE / f"{name}.py")
+            nodes = {node.name: node for node in tree.body if isinstance(node, (ast.FunctionDef, ast.ClassDef))}
+            values = language.defined_names(tree)
+            for word, told in listed.items():
+                with self.subTest(file=name, word=word):
+                    self.assertIn(word, values)
+                    if isinstance(told, int):
+                        self.assertEqual(many_arguments(nodes[word]), told)
+                    elif isinstance(told, dict):
+                        self.check_class(nodes[word], told)
+
+    def check_class(self, node, methods):
+        parts = {part.name: part for part in node.body if isinstance(part, ast.FunctionDef)}
+        for name, many in methods.items():
+            self.assertIn(name, parts)
+            self.assertEqual(many_arguments(parts[name]), many + 1, name)
+
+    def test_modules_can_be_imported(self):
+        for name in INTERFACE:
+            importlib.import_module(f"steadhold.{name}")
+
+
+if __name__ == "__main__":
+    unittest.main()
