@@ -162,6 +162,14 @@ def function_faults(tree):
                 yield node.lineno, f"L12 the name {name}"
 
 
+def called_name(node):
+    return node.func.id if isinstance(node.func, ast.Name) else None
+
+
+def is_set(node):
+    return isinstance(node, (ast.Set, ast.SetComp)) or (isinstance(node, ast.Call) and called_name(node) == "set")
+
+
 def node_faults(node, own):
     """Faults of one node, whatever stands around it; own holds the names of the package's methods and attributes."""
     if isinstance(node, ast.stmt) and not isinstance(node, STATEMENTS):
@@ -190,10 +198,9 @@ def node_faults(node, own):
             if isinstance(sign, (ast.Is, ast.IsNot)):
                 if not isinstance(right, ast.Constant) or right.value not in (None, True, False):
                     yield "L20 is"
-    if isinstance(node, ast.Call) and isinstance(node.func, ast.Name) and node.func.id == "set":
-        yield "L24 a set: see the rule"
-    if isinstance(node, (ast.Set, ast.SetComp)):
-        yield "L24 a set: see the rule"
+    if not (isinstance(node, ast.Call) and called_name(node) in ("len", "sorted")):
+        if any(is_set(part) for part in ast.iter_child_nodes(node)):
+            yield "L24 a set outside of len and sorted: see the rule"
 
 
 def class_names(tree):

@@ -136,12 +136,13 @@ class Taking(unittest.TestCase):
         self.assertEqual(len(frames.free()), 3)
 
     def test_environments_that_do_not_exist(self):
-        frames = Frames(8, [0, 0, 0, 0])
+        frames = Frames(8, [1, 1, 1, 1])
         for e in (4, -1, 99, "0", True):
             self.assertIsNone(frames.take(e))
             self.assertEqual(frames.holdings(e), [])
             self.assertEqual(frames.charge(e), 0)
             self.assertIsNone(frames.right(e, 0))
+            self.assertEqual((frames.share(e), frames.asked(e), frames.taken(e)), (0, 0, []))
         self.assertEqual(frames.free(), list(range(8)))
 
     def test_returned_lists_are_the_callers(self):
@@ -195,6 +196,7 @@ class Offering(unittest.TestCase):
         for e, frame, owner in (
             (0, 0, 0), (1, 1, 0), (1, 0, 1), (1, 0, 2), (1, 0, 4), (1, 0, -4), (4, 0, 0), (-3, 0, 0), (2, 0, 0),
             (1, 8, 0), (1, -8, 0), ("1", 0, 0), (1, "0", 0), (1, 0, "0"), (True, 0, 0), (1, False, 0),
+            (None, 0, 0), (1, None, 0), (1, [0], 0), ([1], 0, 0), (1, 0, [0]),
         ):
             self.refused(self.frames.accept(e, frame, owner))
         self.assertTrue(self.frames.accept(1, 0, 0))
@@ -287,7 +289,9 @@ class Ending(unittest.TestCase):
         frames = Frames(8, [2, 2, 2, 2])
         frames.take(0)
         before = book(frames)
-        for e, frame in ((0, 1), (1, 0), (0, 8), (0, -1), (0, -8), (4, 0), (-4, 0), ("0", 0), (0, "0"), (0, False)):
+        for e, frame in (
+            (0, 1), (1, 0), (0, 8), (0, -1), (0, -8), (4, 0), (-4, 0), ("0", 0), (0, "0"), (0, False), (0, [0]),
+        ):
             self.assertIs(frames.drop(e, frame), False)
             self.assertIs(frames.narrow(e, frame), False)
         self.assertEqual(book(frames), before)

@@ -27,6 +27,23 @@ INTERFACE = {
             "__init__": 1, "map": 4, "unmap": 2, "entry": 2, "load": 3, "store": 4, "ended": 2, "narrowed": 2,
         },
     },
+    "filters": {"FIELDS": None, "is_packet": 1, "is_filter": 1, "meets": 2, "common": 2},
+    "merged": {"EMPTY": None, "with_filter": 3, "without_filter": 3, "found": 2, "tree_of": 1},
+    "net": {
+        "RING": None,
+        "Net": {
+            "__init__": 1, "enroll": 2, "come": 1, "next": 2, "give_up": 2, "filters": 0, "ring": 1, "send": 1,
+            "sent": 0, "lost": 0,
+        },
+    },
+    "disk": {
+        "is_words": 1, "disk_from": 1,
+        "Disk": {"__init__": 1, "words": 1, "queue": 0, "waits": 1, "add": 1, "do": 1, "cut": 1, "image": 0},
+    },
+    "owning": {
+        "MOST_TYPES": None, "is_program": 2, "run_program": 4,
+        "Types": {"__init__": 1, "add": 2, "is_known": 1, "count": 0, "owned": 2, "programs": 0},
+    },
 }
 
 
