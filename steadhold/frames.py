@@ -24,7 +24,8 @@ def includes(held, right):
     return held == "r" and right == "r"
 
 
-def _are_shares(value):
+def are_shares(value):
+    """True if the value is a list of a share for each environment; it may be anything."""
     if not isinstance(value, list) or len(value) != ENVIRONMENTS:
         return False
     return all([is_at_least(share, 0) for share in value])
@@ -34,7 +35,7 @@ class Frames:
     """The frames, their words, and the book of the holdings of the environments."""
 
     def __init__(self, many, shares):
-        if not is_between(many, _LEAST_FRAMES, _MOST_FRAMES) or not _are_shares(shares):
+        if not is_between(many, _LEAST_FRAMES, _MOST_FRAMES) or not are_shares(shares):
             raise NotValid()
         if sum(shares) > many:
             raise NotValid()

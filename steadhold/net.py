@@ -59,13 +59,13 @@ class Net:
 
     def next(self, environment, name):
         """Take the first packet out of the ring; None if there is none, or no such filter of the environment."""
-        if not self._is_enrolled(environment, name) or not self._rings[name]:
+        if not self.is_enrolled(environment, name) or not self._rings[name]:
             return None
         return self._rings[name].pop(0)
 
     def give_up(self, environment, name):
         """End a filter and its ring; True if there was such a filter of the environment."""
-        if not self._is_enrolled(environment, name):
+        if not self.is_enrolled(environment, name):
             return False
         self._tree = without_filter(self._tree, name, self._enrolled[name][1])
         del self._enrolled[name]
@@ -96,11 +96,12 @@ class Net:
         """How many packets that came were lost."""
         return self._lost
 
+    def is_enrolled(self, environment, name):
+        """True if the environment has a filter of this name; the name may be anything."""
+        return is_environment(environment) and self._is_name(name) and self._enrolled[name][0] == environment
+
     def _is_name(self, value):
         return is_at_least(value, 1) and value in self._enrolled
-
-    def _is_enrolled(self, environment, name):
-        return is_environment(environment) and self._is_name(name) and self._enrolled[name][0] == environment
 
     def _shared_packet(self, environment, tests):
         """A packet of the filter that belongs to another environment, by a region or else by a filter, or None."""

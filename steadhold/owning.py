@@ -6,11 +6,11 @@ from steadhold.frames import WORDS, is_word
 from steadhold.slices import ENVIRONMENTS, is_environment
 
 MOST_TYPES = 4
+ROOT_BLOCKS = 4
+DATA = 0
+ROOT = 1
 
-_DATA = 0
-_ROOT = 1
 _FIRST_OF_PROGRAMS = 2
-_ROOT_BLOCKS = 4
 _MOST_CLAUSES = 8
 _MOST_GUARDS = 4
 
@@ -44,7 +44,7 @@ def _is_many(value, start):
 
 
 def _is_kind(value, count):
-    return value == "own" or (is_index(value, count) and value != _ROOT)
+    return value == "own" or (is_index(value, count) and value != ROOT)
 
 
 def run_program(program, words, blocks, own):
@@ -72,7 +72,7 @@ def _told(words, start, many):
 
 
 def _can_be_owned(block, blocks):
-    return _ROOT_BLOCKS <= block < blocks
+    return ROOT_BLOCKS <= block < blocks
 
 
 class Types:
@@ -107,9 +107,9 @@ class Types:
 
     def owned(self, number, words):
         """What a block of this type owns by its words: tuples (block, type), or None if they are ill."""
-        if number == _DATA:
+        if number == DATA:
             return ()
-        if number == _ROOT:
+        if number == ROOT:
             return self._owned_by_root(words)
         return run_program(self._programs[number - _FIRST_OF_PROGRAMS], words, self._blocks, number)
 
@@ -121,6 +121,6 @@ class Types:
         block, kind = words[0], words[1]
         if block == 0:
             return ()
-        if not _can_be_owned(block, self._blocks) or not self.is_known(kind) or kind == _ROOT:
+        if not _can_be_owned(block, self._blocks) or not self.is_known(kind) or kind == ROOT:
             return None
         return ((block, kind),)

@@ -44,6 +44,23 @@ INTERFACE = {
         "MOST_TYPES": None, "is_program": 2, "run_program": 4,
         "Types": {"__init__": 1, "add": 2, "is_known": 1, "count": 0, "owned": 2, "programs": 0},
     },
+    "blocks": {
+        "Blocks": {
+            "__init__": 3, "request": 2, "do": 1, "lasting_forest": 1, "memory_forest": 1, "charged": 1, "free": 0,
+            "reserved": 1, "is_fresh": 1,
+        },
+    },
+    "kernel": {
+        "Kernel": {
+            "__init__": 7, "request": 2, "unit_passed": 0, "gave_up": 0, "running": 0, "disk_does": 1,
+        },
+    },
+    "machines": {
+        "Stack": {"__init__": 1, "step": 2, "ended": 0, "value": 0},
+        "Value": {"__init__": 1, "request": 0, "accept": 1},
+        "Requests": {"__init__": 1, "request": 0, "accept": 1},
+    },
+    "trees": {"new_tree": 0, "is_request": 1, "ask": 2, "copied": 1},
 }
 
 
