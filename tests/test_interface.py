@@ -61,6 +61,19 @@ INTERFACE = {
         "Requests": {"__init__": 1, "request": 0, "accept": 1},
     },
     "trees": {"new_tree": 0, "is_request": 1, "ask": 2, "copied": 1},
+    "afiles": {
+        "NODE": None, "tree_at": 2,
+        "MountA": {"__init__": 1, "request": 0, "accept": 1},
+        "AFiles": {"ask": 1},
+    },
+    "segments": {"written": 1, "deeds_of": 1, "image_of": 1, "tree_of": 1, "parts_of": 1},
+    "bfiles": {
+        "SEGMENT": None, "stream_of": 2,
+        "MountB": {"__init__": 1, "request": 0, "accept": 1},
+        "BFiles": {"ask": 1},
+    },
+    "checks": {"forests": 2, "tree_of_a": 2, "tree_of_b": 2, "unreached": 2},
+    "programs": {"REGISTERS": None, "NAMES": None, "is_program": 1, "instruction_at": 2, "plain_step": 3},
 }
 
 
