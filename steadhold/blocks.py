@@ -210,10 +210,11 @@ class Blocks:
 
     def charged(self, environment):
         """The list of the blocks that are charged to the environment, ascending."""
-        found = list(self.lasting_forest(environment)) + list(self.memory_forest(environment))
+        lasting = self._growth(environment, self.disk.image())
+        found = list(lasting[0]) + list(self.memory_forest(environment))
         for operation in self._waiting(environment):
             found.append(operation[1])
-            if self._is_linking(operation):
+            if self._is_linking(operation, lasting):
                 found.extend(list(self._growth_behind(operation)[0]))
         return [block for block in sorted(set(found)) if block >= ROOT_BLOCKS]
 
@@ -301,10 +302,11 @@ class Blocks:
     def flush_refusal(self, environment, block, words):
         """The word with which the write of a block is refused, or None."""
         waiting = self._waiting(environment)
-        if self.disk.waits(block) or any([self._is_linking(operation) for operation in waiting]):
+        lasting = self._growth(environment, self.disk.image())
+        if self.disk.waits(block) or any([self._is_linking(operation, lasting) for operation in waiting]):
             return "busy"
         operation = ("write", block, words, environment)
-        if not self._is_linking(operation):
+        if not self._is_linking(operation, lasting):
             return None
         if waiting:
             return "busy"
@@ -327,10 +329,11 @@ class Blocks:
         table[operation[1]] = operation[2]
         return self._growth(operation[-1], table)
 
-    def _is_linking(self, operation):
-        if operation[0] != "write":
+    def _is_linking(self, operation, lasting):
+        """True for a write behind which the forest, or its first fault, is not what it is now."""
+        if operation[0] != "write" or operation[1] not in lasting[0]:
             return False
-        return self._growth_behind(operation) != self._growth(operation[-1], self.disk.image())
+        return self._growth_behind(operation) != lasting
 
     def _waiting(self, environment):
         """The operations of the environment that wait."""
