@@ -43,9 +43,10 @@ def _with_owners(blocks, forest):
     """The dict of True of the blocks, their owners, the owners of these, and so on."""
     above = {}
     for block in blocks:
-        while block is not None and block not in above:
-            above[block] = True
-            block = forest[block][0]
+        at = block
+        while at is not None and at not in above:
+            above[at] = True
+            at = forest[at][0]
     return above
 
 
