@@ -74,6 +74,46 @@ INTERFACE = {
     },
     "checks": {"forests": 2, "tree_of_a": 2, "tree_of_b": 2, "unreached": 2},
     "programs": {"REGISTERS": None, "NAMES": None, "is_program": 1, "instruction_at": 2, "plain_step": 3},
+    "memory": {
+        "Memory": {
+            "__init__": 1, "pages": 1, "users": 1, "held": 0, "is_full": 0, "note_taken": 0, "note_dropped": 0,
+        },
+        "Read": {"__init__": 3, "request": 0, "accept": 1},
+        "Write": {"__init__": 4, "request": 0, "accept": 1},
+        "Grow": {"__init__": 2, "request": 0, "accept": 1},
+        "Fork": {"__init__": 3, "request": 0, "accept": 1},
+        "Clear": {"__init__": 2, "request": 0, "accept": 1},
+    },
+    "pipes": {
+        "Pipes": {"__init__": 1, "size": 1, "is_there": 1},
+        "Make": {"__init__": 1, "request": 0, "accept": 1},
+        "Put": {"__init__": 3, "request": 0, "accept": 1},
+        "Take": {"__init__": 2, "request": 0, "accept": 1},
+        "End": {"__init__": 2, "request": 0, "accept": 1},
+    },
+    "processes": {
+        "SLOTS": None, "ENDS": None,
+        "Process": {"__init__": 3},
+        "Opening": {"__init__": 4},
+        "Table": {
+            "__init__": 0, "at": 1, "put": 2, "remove": 1, "least_slot": 0, "next_number": 0, "opening": 1, "add": 1,
+            "users": 1, "leads": 2, "close": 2, "free_ends": 1, "children": 1,
+        },
+    },
+    "calls": {"Turn": {"__init__": 2, "request": 0, "accept": 1}},
+    "unix": {
+        "Unix": {"__init__": 4, "rows": 0, "is_resting": 0},
+        "Running": {"__init__": 1, "request": 0, "accept": 1},
+    },
+    "plain": {"Plain": {"__init__": 2, "turn": 1, "is_resting": 0, "tree": 0, "copied": 0}},
+    "judge": {"first_fault": 3, "tree_behind": 3, "tree_at_sync": 4},
+    "shell": {"is_script": 1, "compiled": 1, "plain_run": 2},
+    "world": {
+        "World": {
+            "__init__": 7, "play": 1, "settle": 1, "lives": 0, "rows": 2, "tree": 1, "mounted": 2, "answers": 1,
+            "rests": 1,
+        },
+    },
 }
 
 
