@@ -150,9 +150,11 @@ class Ends(TurnCase):
         self.grow(0, 2)
         self.ok("pipe", r1=0, r2=1)
         self.ok("pipe", r1=2, r2=3)
-        self.ok("move", 0, 3)
-        self.ok("move", 1, 0)
-        # The ends 0 and 3 lead to the first pipe, the end 2 to the second one.
+        self.ok("move", 2, 1)
+        self.ok("move", 0, 2)
+        self.ok("move", 3, 0)
+        self.ok("close", 1)
+        # The end 0 alone leads to the second pipe, the end 2 alone to the first one.
         self.call("exit", 1)
         self.assertEqual(self.asked_behind(), [
             ("unmap", 25), ("drop", 3), ("unmap", 24), ("drop", 2), ("unmap", 0), ("unmap", 1), ("drop", 0), ("drop", 1)])

@@ -52,7 +52,7 @@ class Opened(FileCase):
         self.assertEqual(self.asked_files(), [("size", (1,)), ("shrink", (1,), 0)])
         self.assertEqual(self.opening(0), ("write", None, (1,), 0))
         self.ok("open", 1, 2, 7, r1=1)
-        self.assertEqual(self.asked_files()[:2], [("size", (2, 7)), ("make", (2, 7), "file")])
+        self.assertEqual(self.asked_files(), [("size", (2, 7)), ("make", (2, 7), "file"), ("shrink", (2, 7), 0)])
         self.assertEqual(self.tree(), dir_of(n1=file_of(), n2=dir_of(n1=file_of(20), n7=file_of())))
 
     def test_behind(self):

@@ -245,6 +245,29 @@ class Writing(MemoryCase):
         self.assertEqual((steps, stack.value()), (22, True))
 
 
+class Refusals(MemoryCase):
+    """A kernel that gives fewer frames than the library counts on is answered as a full memory."""
+
+    def begin(self, share=1):
+        super().begin(share, frames=8)
+        self.memory = Memory(share + 5)
+        for at in range(8):
+            self.kernel.request(3, ("take",))
+
+    def test_growing(self):
+        self.begin()
+        self.assertEqual(self.run_machine(Grow(self.memory, 0)), 8)
+        self.assertEqual(self.requests_of(Grow(self.memory, 0)), ([("take",)], "full"))
+        self.assertEqual((self.memory.held(), self.memory.pages(0)), (1, [7]))
+
+    def test_writing(self):
+        self.begin()
+        self.run_machine(Grow(self.memory, 0))
+        self.run_machine(Fork(self.memory, 0, 1))
+        self.assertEqual(self.requests_of(Write(self.memory, 1, 5, 99)), ([("take",)], "full"))
+        self.assertEqual((self.memory.held(), self.memory.users(7)), (1, 2))
+
+
 class Clearing(MemoryCase):
     def test_without_pages(self):
         self.begin()

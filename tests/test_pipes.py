@@ -70,6 +70,15 @@ class Making(PipesCase):
         self.assertEqual((self.pipes.size(0), self.words_of(0)), (0, [0] * 8))
         self.assertEqual(self.requests_of(Put(self.pipes, 0, 7))[0], [("store", 24, 0, 7)])
 
+    def test_a_kernel_that_refuses(self):
+        self.begin(share=0)
+        self.memory = Memory(3)
+        self.pipes = Pipes(self.memory)
+        for _ in range(32):
+            self.kernel.request(3, ("take",))
+        self.assertEqual(self.requests_of(Make(self.pipes)), ([("take",)], None))
+        self.assertEqual((self.memory.held(), self.pipes.is_there(0)), (0, False))
+
     def test_numbers_that_are_no_pipes(self):
         self.begin()
         self.do(Make)

@@ -118,6 +118,21 @@ class Calls(PlainCase):
         self.assertEqual([row[:1] + row[2][:3] for row in rows], [
             (1, 1, 0, 1), (1, 1, 2, 3), (1, 0, 2, 3), (2, 1, 0, 1), (2, 1, 2, 3), (2, 0, 2, 3), (3, 0, 3, 3)])
 
+    def test_close_and_move(self):
+        for words, result in (
+            ((0, 3), 1), ((0, 0), 1), ((1, 0), 1), ((0, 4), 0), ((0, TOP), 0), ((2, 0), 0), ((4, 4), 0), ((2, 2), 0),
+        ):
+            row = self.last([("call", "pipe")] + call("move", *words))
+            self.assertEqual(row, (1, "move", (result, *words, 0, 0, 0)))
+        for end, result in ((0, 1), (1, 1), (2, 0), (4, 0), (TOP, 0)):
+            self.assertEqual(self.last([("call", "pipe")] + call("close", end))[2][0], result)
+
+    def test_a_file_that_is_gone(self):
+        tree = dir_of(n1=file_of(5))
+        for mode, name in ((0, "read"), (2, "write")):
+            row = self.last(call("open", mode, 0, 1) + call("drop", 0, 0, 1) + call(name, 0), tree=tree)
+            self.assertEqual((row[1], row[2][0], row[2][1]), (name, 0, 0))
+
     def test_a_full_pipe(self):
         rows = self.run_plain([("call", "pipe")] + sets(r1=1) + [("call", "write")] * 9)
         self.assertEqual([row[1] for row in rows], ["pipe", "set"] + ["write"] * 8)
@@ -231,6 +246,19 @@ class Copies(PlainCase):
             self.assertEqual(copy.tree(), before)
             self.assertEqual([(copy.turn(None), copy.is_resting()) for _ in range(80)], rows)
             self.assertEqual(copy.tree(), plain.tree())
+
+    def test_a_copy_among_turns_in_vain(self):
+        """One of two has waited in vain: the copy rests behind the next turn in vain, too."""
+        plain = Plain((("call", "pipe"), ("call", "fork"), ("set", 1, 0), ("call", "read")), new_tree())
+        rows = []
+        while len(rows) < 5:
+            rows.append(plain.turn(None))
+        self.assertIsNone(rows[-1])
+        self.assertFalse(plain.is_resting())
+        copy = plain.copied()
+        for each in (plain, copy):
+            self.assertIsNone(each.turn(None))
+            self.assertTrue(each.is_resting())
 
     def test_a_tree_is_a_new_one_each_time(self):
         tree = dir_of(n1=file_of(4))

@@ -178,7 +178,7 @@ class OtherActs(WorldCase):
         self.assertEqual(world.answers(0)[-1][1], ("ok", (3, 2)))
         for wrong in ((4, 1), (-1, 1), (0, 0), (0, -1), (True, 1), (0, True), (None, 1), (0, None), ("0", 1)):
             self.assertEqual(self.play(world, ("ask", *wrong)), [False])
-        self.assertEqual(self.play(world, ("ask", 3, 10 ** 9)), [True])
+        self.assertEqual(self.play(world, ("ask", 3, 10 ** 9), ("ask", 0, 1)), [True, True])
 
     def test_a_unix_is_asked_in_vain(self):
         world = one_unix("A", [("call", "grow")] * 3 + [("call", "pipe"), ("call", "read")], share=4, owners=[2, None] * 4)
