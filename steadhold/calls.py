@@ -113,7 +113,8 @@ def _read_from_file(turn, answer):
     if answer[0] == "no" or not answer[1]:
         turn.refuse()
         return
-    turn.opening().offset += 1
+    opening = turn.opening()
+    opening.offset += 1
     turn.succeed({1: answer[1][0]})
 
 
