@@ -138,7 +138,8 @@ def _written_to_file(turn, answer):
     if answer[0] == "no":
         turn.refuse()
         return
-    turn.opening().offset += 1
+    opening = turn.opening()
+    opening.offset += 1
     turn.succeed({})
 
 
@@ -314,9 +315,10 @@ class Turn:
 
     def finish(self, registers, place):
         """The turn is done; these are the registers and the place behind it."""
-        self.process.registers = list(registers)
-        self.process.place = place
-        self._wanted = ("end", (self.process.number, self.name, tuple(registers)))
+        process = self.process
+        process.registers = list(registers)
+        process.place = place
+        self._wanted = ("end", (process.number, self.name, tuple(registers)))
 
     def _end_call(self, results):
         registers = list(self.process.registers)

@@ -148,7 +148,8 @@ class Table:
         process = self._slots[slot]
         process.code = code
         for child in self.children(process.number):
-            self._slots[child].parent = 0
+            orphan = self._slots[child]
+            orphan.parent = 0
         self._slots = [None if _is_forgotten(row) else row for row in self._slots]
 
     def copied(self):

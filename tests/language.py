@@ -162,6 +162,35 @@ def function_faults(tree):
                 yield node.lineno, f"L12 the name {name}"
 
 
+def outermost_functions(tree):
+    """The functions of a module and the methods of its classes; nested functions are parts of these."""
+    for node in tree.body:
+        if isinstance(node, ast.FunctionDef):
+            yield node
+        elif isinstance(node, ast.ClassDef):
+            yield from (part for part in node.body if isinstance(part, ast.FunctionDef))
+
+
+def assigned_attributes(tree):
+    """The attributes that are assigned or deleted, in whatever statement: a target in a tuple or a loop too."""
+    for node in ast.walk(tree):
+        if isinstance(node, ast.Attribute) and not isinstance(node.ctx, ast.Load):
+            yield node
+
+
+def attribute_faults(tree):
+    """Attributes that are assigned through a call, an item, an attribute, a class or a name of the module."""
+    right = set()
+    for function in outermost_functions(tree):
+        names = set(locals_of(function))
+        for node in assigned_attributes(function):
+            if isinstance(node.value, ast.Name) and node.value.id in names:
+                right.add(node)
+    for node in assigned_attributes(tree):
+        if node not in right:
+            yield node.lineno, f"L18 {ast.unparse(node)} is not assigned through a local name"
+
+
 def called_name(node):
     return node.func.id if isinstance(node.func, ast.Name) else None
 
@@ -228,7 +257,9 @@ def faults():
             if set(methods) & attributes or len(set(methods)) != len(methods):
                 found.append(f"{path.name}:{node.lineno}: L18 a name is a method twice, or an attribute too")
     for path, tree in trees.items():
-        for line, word in [*text_faults(path), *module_faults(tree), *function_faults(tree)]:
+        for line, word in [
+            *text_faults(path), *module_faults(tree), *function_faults(tree), *attribute_faults(tree),
+        ]:
             found.append(f"{path.name}:{line}: {word}")
         for node in ast.walk(tree):
             for word in node_faults(node, own):
